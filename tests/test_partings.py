@@ -1,20 +1,8 @@
 import unittest
 
-from onereading import errors
 from onereading.partings import counted, may_begin, parting
+from tests.refused import RefusedTest
 from tests.things import CODES, HUGE, no_lists, no_numbers, no_words, partings, rows_up_to, texts, wrong_codes
-
-
-class RefusedTest(unittest.TestCase):
-
-    def refused(self, name, call, *handed_in):
-        with self.assertRaises(errors.CodeError) as caught:
-            call(*handed_in)
-        self.assertIs(type(caught.exception), getattr(errors, name))
-
-    def same_long(self, told, expected):
-        # assertEqual would look for the differences of two long lists, for minutes.
-        self.assertTrue(told == expected)
 
 
 class CountedTest(RefusedTest):
